@@ -1,0 +1,1 @@
+"""Drawloom: one program, many threads."""

@@ -1,0 +1,63 @@
+"""The interface: each name is defined where it is listed, with its arguments."""
+
+import ast
+import importlib
+import inspect
+import unittest
+from pathlib import Path
+
+FOLDER = Path(__file__).resolve().parent.parent / "drawloom"
+
+FUNCTIONS = {
+    "words": {
+        "wrapped": ["number"], "binary": ["op", "a", "b"], "unary": ["op", "a"],
+        "neutral": ["op"], "fold": ["op", "words"],
+    },
+    "kernels": {
+        "check_kernel": ["value"], "check_launch": ["kernel", "value"], "statements": ["kernel"],
+    },
+}
+CLASSES = {
+    "errors": {
+        "DrawloomError": {}, "BadKernel": {}, "BadLaunch": {}, "BadGraph": {}, "NotInForm": {},
+        "NotReady": {}, "TooLarge": {}, "BadCode": {},
+    },
+}
+TUPLES = {"words": ("BINARY", "UNARY", "FOLDING")}
+
+
+def definitions(module, kind):
+    """Return the definitions at the top of a file, by their names."""
+    tree = ast.parse((FOLDER / (module + ".py")).read_text())
+    return {node.name: node for node in tree.body if isinstance(node, kind)}
+
+
+class InterfaceTest(unittest.TestCase):
+    def test_functions(self):
+        for module, functions in FUNCTIONS.items():
+            defined = definitions(module, ast.FunctionDef)
+            found = importlib.import_module("drawloom." + module)
+            for name, arguments in functions.items():
+                self.assertIn(name, defined)
+                taken = inspect.signature(getattr(found, name)).parameters
+                self.assertEqual(list(taken), arguments, name)
+
+    def test_classes_and_their_methods(self):
+        for module, classes in CLASSES.items():
+            defined = definitions(module, ast.ClassDef)
+            found = importlib.import_module("drawloom." + module)
+            for name, methods in classes.items():
+                self.assertIn(name, defined)
+                for method, arguments in methods.items():
+                    taken = inspect.signature(vars(getattr(found, name))[method]).parameters
+                    self.assertEqual(list(taken), ["self"] + arguments, (name, method))
+
+    def test_tuples(self):
+        for module, names in TUPLES.items():
+            found = importlib.import_module("drawloom." + module)
+            for name in names:
+                self.assertIs(type(getattr(found, name)), tuple, name)
+
+
+if __name__ == "__main__":
+    unittest.main()
