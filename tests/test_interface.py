@@ -16,11 +16,33 @@ FUNCTIONS = {
     "kernels": {
         "check_kernel": ["value"], "check_launch": ["kernel", "value"], "statements": ["kernel"],
     },
+    "meaning": {"run": ["kernel", "launch", "turns"], "is_free": ["kernel", "launch"]},
+    "graphs": {
+        "check_graph": ["value"], "leads_to": ["graph"], "comes_from": ["graph"],
+        "run_graph": ["graph", "launch", "turns", "most"],
+    },
+    "lowering": {"lowered": ["kernel"]},
+    "dominators": {
+        "dominators": ["graph"], "postdominators": ["graph"], "dominates": ["graph", "a", "b"],
+        "frontiers": ["graph"], "region": ["graph", "b"],
+    },
+    "forming": {"is_in_form": ["graph"], "in_form": ["graph"], "out_of_form": ["graph"]},
+    "improving": {"is_improved": ["graph"], "improved": ["graph"]},
+    "places": {
+        "live_into": ["graph"], "clashes": ["graph"], "is_right": ["graph", "places", "k"],
+        "assigned": ["graph", "k"],
+    },
 }
 CLASSES = {
     "errors": {
         "DrawloomError": {}, "BadKernel": {}, "BadLaunch": {}, "BadGraph": {}, "NotInForm": {},
         "NotReady": {}, "TooLarge": {}, "BadCode": {},
+    },
+    "meaning": {
+        "World": {
+            "__init__": ["kernel", "launch"], "ready": [], "step": ["thread"], "end": [], "memory": [],
+            "races": [], "steps": [], "copy": [],
+        },
     },
 }
 TUPLES = {"words": ("BINARY", "UNARY", "FOLDING")}
