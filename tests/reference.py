@@ -227,9 +227,15 @@ class SlowKernel(Slow):
 
 
 class SlowGraph(Slow):
+    def __init__(self, graph, launch, most):
+        # The barriers and collects that each thread has passed.
+        self.met = {}
+        super().__init__(graph, launch, most)
+
     def thread(self, number):
         _, _, many, nodes = self.program
         words, origin, node = [0] * many, None, 0
+        met = self.met.setdefault(number, [])
         while True:
             instructions, end = nodes[node]
             phis = [row for row in instructions if row[0] == "phi"]
@@ -240,6 +246,7 @@ class SlowGraph(Slow):
                 yield ("step",)
                 if row[0] in ("barrier", "collect"):
                     yield from self.meet(words, row)
+                    met.append((row[0], row[-1], row[1] if row[0] == "collect" else ""))
                 else:
                     self.do(number, words, row)
             yield ("step",)
