@@ -10,6 +10,8 @@ class Cells:
     def __init__(self, program, launch):
         grid, _, arguments, buffers = launch
         shared = program[1]
+        self.program = program
+        self.launch = launch
         self.params = arguments
         self.many_buffers = len(buffers)
         self.many_shared = len(shared)
@@ -35,9 +37,11 @@ class Cells:
         """Return the buffers as a tuple of tuples."""
         return tuple([tuple(row) for row in self.rows[:self.many_buffers]])
 
-    def rows_copied(self):
-        """Return a list with copies of the rows."""
-        return [list(row) for row in self.rows]
+    def copied(self):
+        """Return cells that are as these, independent of them."""
+        other = Cells(self.program, self.launch)
+        other.rows = [list(row) for row in self.rows]
+        return other
 
 
 def array_numbers(program):

@@ -4,12 +4,9 @@ from drawloom.dominators import dominators, frontiers, is_above, outward_order
 from drawloom.errors import BadGraph, NotInForm, TooLarge
 from drawloom.graphs import comes_from, fits, leads_to
 from drawloom.instructions import (
-    NO_REGISTER, end_with, is_phi, occurring, others_of, phis_of, rebuilt, used, used_by_end, written,
+    NO_REGISTER, end_with, is_phi, others_of, phis_of, rebuilt, used, used_by_end, written,
 )
 from drawloom.liveness import live_in_front
-
-# The phis of a node write before all of its other instructions.
-IN_FRONT = -1
 
 
 def writers(nodes):
@@ -22,8 +19,7 @@ def writers(nodes):
         for at, instruction in enumerate(instructions):
             write = written(instruction)
             if write != NO_REGISTER:
-                place = (node, IN_FRONT if is_phi(instruction) else at)
-                found.setdefault(write, []).append(place)
+                found.setdefault(write, []).append((node, at))
     return found
 
 
@@ -203,8 +199,8 @@ def out_of_form(graph):
     """Return a flow graph without phis that does the same as one in single assignment form."""
     check_form(graph)
     params, shared, _, nodes = graph
-    # Only those that occur, so that there is room for those of the phis.
-    numbers = {number: index for index, number in enumerate(occurring(nodes))}
+    # Only those that are written, which all that occur are: so there is room for those of the phis.
+    numbers = {number: index for index, number in enumerate(sorted(writers(nodes)))}
     fronts, ends = phi_copies(nodes, numbers)
     found = []
     for node, front, last in zip(nodes, fronts, ends):

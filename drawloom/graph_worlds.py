@@ -25,7 +25,6 @@ class GraphWorld:
 
     def __init__(self, graph, launch, most):
         _, _, many, nodes = graph
-        self.launch = launch
         self.play = Play(graph, launch, most)
         self.nodes = [(others_of(node), node[1]) for node in nodes]
         self.moves = phi_moves(nodes)

@@ -243,8 +243,8 @@ def is_improved(graph):
 
 def improved(graph):
     """Return an improved flow graph that does the same as one in form."""
-    check_form(graph)
     # Each result can make others possible; none of them adds anything, so it ends.
+    # A graph that is not in form is told by is_improved.
     while not is_improved(graph):
         graph = with_words(graph)
         graph = without(graph, copies(graph))

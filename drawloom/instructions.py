@@ -93,18 +93,3 @@ def phis_of(node):
 def others_of(node):
     """Return the list of the instructions of a node that are no phis."""
     return [instruction for instruction in node[0] if not is_phi(instruction)]
-
-
-def occurring(nodes):
-    """Return the ascending list of the registers that occur in nodes."""
-    found = {}
-    for instructions, end in nodes:
-        for instruction in instructions:
-            for number in used(instruction) + [written(instruction)]:
-                found[number] = True
-            if is_phi(instruction):
-                for _, number in instruction[2]:
-                    found[number] = True
-        for number in used_by_end(end):
-            found[number] = True
-    return sorted([number for number in found if number != NO_REGISTER])

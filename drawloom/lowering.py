@@ -87,7 +87,6 @@ class Lowering:
 
     def node(self, number):
         """Return a node that goes on at a statement, where another node may begin."""
-        self.written_ones = []
         if number in self.numbers:
             return ((), ("jump", self.numbers[number]))
         return self.node_from(number)

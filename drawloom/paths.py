@@ -22,12 +22,12 @@ class Ways:
 
         The innermost while around it has the number head, and past is next behind that.
         """
+        number = at
         for index, statement in enumerate(body):
-            number = at + many_in(body[:index])
-            follower = number + many_in((statement,))
-            if index == len(body) - 1:
-                follower = behind
-            self.lay(statement, number, follower, head, past)
+            following = number + many_in((statement,))
+            is_last = index == len(body) - 1
+            self.lay(statement, number, behind if is_last else following, head, past)
+            number = following
 
     def lay(self, statement, number, follower, head, past):
         """Add the rows of a statement and of those in it."""

@@ -2,7 +2,7 @@
 
 from drawloom.errors import TooLarge
 from drawloom.graphs import leads_to
-from drawloom.instructions import NO_REGISTER, occurring, used, used_by_end, written
+from drawloom.instructions import NO_REGISTER, used, used_by_end, written
 from drawloom.liveness import behind_each, listed, live_behind, live_in_front
 
 LEAST_PLACE = -64
@@ -14,7 +14,7 @@ def live_into(graph):
 
 
 def clash_bits(graph):
-    """Return a list, for each register, of the bits of those that clash with it."""
+    """Return a list, for each register, of the bits of those that clash with it, perhaps its own."""
     _, _, registers, nodes = graph
     ways = leads_to(graph)
     live = live_in_front(nodes, ways)
@@ -30,12 +30,12 @@ def clash_bits(graph):
 
 
 def both_ways(bits):
-    """Return such a list in which each of two registers knows the other one, and none itself."""
+    """Return such a list in which each of two registers knows the other one."""
     found = list(bits)
     for number, row in enumerate(bits):
         for other in listed(row):
             found[other] = found[other] | 1 << number
-    return [row & ~(1 << number) for number, row in enumerate(found)]
+    return found
 
 
 def clashes(graph):
@@ -53,18 +53,16 @@ def is_right(graph, places, k):
     return not any([places[one] == places[other] for one, other in clashes(graph)])
 
 
-def by_use(graph):
+def by_use(nodes):
     """Return the list of the registers that occur, those that occur most often first."""
-    nodes = graph[3]
-    many = {number: 0 for number in occurring(nodes)}
+    many = {}
     for instructions, end in nodes:
+        numbers = used_by_end(end)
         for instruction in instructions:
-            for number in used(instruction) + [written(instruction)]:
-                if number != NO_REGISTER:
-                    many[number] += 1
-        for number in used_by_end(end):
-            many[number] += 1
-    rows = sorted([(-many[number], number) for number in many])
+            numbers.extend(used(instruction) + [written(instruction)])
+        for number in numbers:
+            many[number] = many.get(number, 0) + 1
+    rows = sorted([(-many[number], number) for number in many if number != NO_REGISTER])
     return [number for _, number in rows]
 
 
@@ -85,7 +83,7 @@ def assigned(graph, k):
     found = {}
     # Each one takes the first place that is free, so that no more places are used
     # than there are registers.
-    for number in by_use(graph):
+    for number in by_use(graph[3]):
         taken = {found[other]: True for other in listed(clashing[number]) if other in found}
         found[number] = first_free(taken, k)
     places = tuple([found.get(number, 0) for number in range(graph[2])])

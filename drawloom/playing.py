@@ -136,7 +136,7 @@ class Play:
     def copied(self):
         """Return a play that goes on as this one, independent of it."""
         other = Play(self.program, self.launch, self.most)
-        other.cells.rows = self.cells.rows_copied()
+        other.cells = self.cells.copied()
         other.history = self.history.copied()
         other.running = list(self.running)
         other.waiting = list(self.waiting)

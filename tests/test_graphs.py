@@ -4,7 +4,7 @@ import copy
 import unittest
 
 from drawloom.errors import BadGraph, DrawloomError
-from drawloom.graphs import check_graph, comes_from, leads_to
+from drawloom.graphs import check_graph, comes_from, fits, leads_to
 from drawloom.words import BINARY, FOLDING, UNARY
 from tests.randoms import random_graph
 from tests.samples import GREATEST, LEAST, ODD, as_lists, part_at, places, replaced
@@ -348,6 +348,16 @@ class BoundsTest(GraphCase):
             return graph(((), ("jump", 1)), (phis, ("exit",)), registers=1000)
         self.good(joined(998))
         self.bad(joined(999))
+
+
+    def test_what_fits(self):
+        row = ("word", 0, 0)
+        for value, told in (
+            (graph(EXIT, registers=1000), True), (graph(EXIT, registers=1001), False), (chain(400), True),
+            (chain(401), False), (one(*[row] * 999), True), (one(*[row] * 1000), False),
+            (chain(400, *[row] * 600), True), (chain(400, *[row] * 601), False),
+        ):
+            self.assertIs(fits(value), told)
 
 
 class NeighborsTest(unittest.TestCase):

@@ -258,6 +258,11 @@ class IsRightTest(unittest.TestCase):
     def test_no_registers(self):
         self.assertIs(is_right(one(registers=0), (), 1), True)
 
+    def test_a_place_more_or_less(self):
+        self.wrong(0, 1)
+        self.wrong()
+        self.wrong(0, 1, 0, 0)
+
     def test_by_the_words_of_the_point(self):
         found = {True: 0, False: 0}
         for seed, value in enumerate(GRAPHS):

@@ -173,6 +173,28 @@ class CopiesTest(unittest.TestCase):
         other.step(0)
         self.assertEqual(snapshot(other), snapshot(world))
 
+    def test_a_copy_knows_how_many_barriers_were_passed(self):
+        world = World(kernel(only(0, put("a", 0, 1)), BARRIER, only(1, put("a", 0, 2))), launch(1, 2))
+        for thread in (0, 0, 0, 1, 1):
+            world.step(thread)
+        other = world.copy()
+        for one in (other, world):
+            while one.ready():
+                one.step(one.ready()[-1])
+            self.assertEqual((one.end(), one.races(), one.memory()[0][0]), ("ok", [], 2))
+
+    def test_a_copy_has_its_own_number_of_steps_for_each_thread(self):
+        world = World(kernel(loop(1)), launch(1, 2))
+        for _ in range(399):
+            world.step(1)
+        other = world.copy()
+        other.step(1)
+        world.step(1)
+        self.assertEqual((world.end(), other.end(), world.steps(), other.steps()), ("", "", 400, 400))
+        third = world.copy()
+        third.step(1)
+        self.assertEqual((world.end(), third.end()), ("", "fuel"))
+
     def test_worlds_of_one_kernel_are_independent(self):
         one, other = World(*ORDERED), World(*ORDERED)
         before = snapshot(other)
