@@ -1,8 +1,8 @@
 """A launch of a flow graph, step by step."""
 
-from drawloom.instructions import others_of, phis_of
-from drawloom.playing import Play, special
-from drawloom.words import binary, unary
+from drawloom.effects import asked_by, going_on, made_by
+from drawloom.instructions import NO_REGISTER, others_of, phis_of, written
+from drawloom.playing import Play
 
 
 def phi_moves(nodes):
@@ -42,11 +42,10 @@ class GraphWorld:
         at = self.at[thread]
         if at == len(instructions):
             self.do_end(thread, end)
-        elif instructions[at][0] in ("barrier", "collect"):
-            self.do_meeting(thread, instructions[at])
-        else:
-            done(self.play, thread, self.registers[thread], instructions[at])
-            self.at[thread] = at + 1
+            return
+        asked = asked_by(instructions[at], self.registers[thread])
+        for other, word in going_on(self.play, thread, asked):
+            self.go_on(other, word)
 
     def do_end(self, thread, end):
         """Do the end of the node of a thread."""
@@ -68,44 +67,11 @@ class GraphWorld:
         self.node_of[thread] = node
         self.at[thread] = 0
 
-    def do_meeting(self, thread, instruction):
-        """Let a thread wait at a barrier or a collect, and all pass who can."""
-        if instruction[0] == "barrier":
-            passing = self.play.wait(thread, instruction[1], "", 0)
-        else:
-            _, op, _, number, meeting = instruction
-            passing = self.play.wait(thread, meeting, op, self.registers[thread][number])
-        for other, word in passing:
-            instructions, _ = self.nodes[self.node_of[other]]
-            met = instructions[self.at[other]]
-            if met[0] == "collect":
-                self.registers[other][met[2]] = word
-            self.at[other] += 1
-
-
-def done(play, thread, registers, instruction):
-    """Do an instruction that neither waits nor leads elsewhere, with a thread's registers."""
-    word = instruction[0]
-    if word == "word":
-        registers[instruction[1]] = instruction[2]
-    elif word == "param":
-        registers[instruction[1]] = play.launch[2][instruction[2]]
-    elif word == "special":
-        registers[instruction[1]] = special(play.launch, thread, instruction[2])
-    elif word == "copy":
-        registers[instruction[1]] = registers[instruction[2]]
-    elif word == "unary":
-        _, op, write, number = instruction
-        registers[write] = unary(op, registers[number])
-    elif word == "binary":
-        _, op, write, first, second = instruction
-        registers[write] = binary(op, registers[first], registers[second])
-    elif word == "load":
-        _, write, array, number = instruction
-        registers[write] = play.load(thread, array, registers[number])
-    elif word == "store":
-        _, array, first, second = instruction
-        play.store(thread, array, registers[first], registers[second])
-    else:
-        _, op, array, first, second = instruction
-        play.atomic(thread, op, array, registers[first], registers[second])
+    def go_on(self, thread, word):
+        """Let a thread go on behind its instruction, given the word that it gets."""
+        instruction = self.nodes[self.node_of[thread]][0][self.at[thread]]
+        registers = self.registers[thread]
+        write = written(instruction)
+        if write != NO_REGISTER:
+            registers[write] = made_by(instruction, registers, self.play.launch, thread, word)
+        self.at[thread] += 1

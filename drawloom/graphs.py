@@ -1,18 +1,17 @@
 """Flow graphs: which values are some, where their nodes lead, and their runs."""
 
-from drawloom.cells import FIRST_SHARED
 from drawloom.errors import BadGraph
 from drawloom.graph_worlds import GraphWorld
 from drawloom.instructions import END_PARTS, INSTRUCTION_PARTS, PHI_PARTS, is_phi, targets
-from drawloom.kernels import first_word, is_choice, is_head, is_tuple
+from drawloom.kernels import first_word, is_head, is_tuple
+from drawloom.parts import is_common_part
 from drawloom.playing import played
-from drawloom.words import is_between, is_word
+from drawloom.words import is_between
 
 MOST_REGISTERS = 1000
 MOST_NODES = 400
 # Of nodes and instructions together.
 MOST_PARTS = 1000
-MOST_NUMBER = 99
 
 
 def many_parts(nodes):
@@ -24,18 +23,6 @@ def fits(graph):
     """Tell whether what has the form of a flow graph is not too large for one."""
     _, _, registers, nodes = graph
     return registers <= MOST_REGISTERS and len(nodes) <= MOST_NODES and many_parts(nodes) <= MOST_PARTS
-
-
-def is_array(params, shared, value):
-    """Tell whether any value is the number of an array."""
-    if is_between(value, FIRST_SHARED, FIRST_SHARED + len(shared) - 1):
-        return True
-    return is_between(value, 0, len(params) - 1) and params[value][1] == "buffer"
-
-
-def is_int_param(params, value):
-    """Tell whether any value is the index of a parameter that is an int."""
-    return is_between(value, 0, len(params) - 1) and params[value][1] == "int"
 
 
 def is_row(graph, value):
@@ -55,19 +42,11 @@ def is_graph_part(graph, sort, value):
     params, shared, registers, nodes = graph
     if sort in ("read", "write"):
         return is_between(value, 0, registers - 1)
-    if sort == "word":
-        return is_word(value)
-    if sort == "param":
-        return is_int_param(params, value)
-    if sort == "array":
-        return is_array(params, shared, value)
-    if sort == "number":
-        return is_between(value, 0, MOST_NUMBER)
     if sort == "node":
         return is_between(value, 1, len(nodes) - 1)
     if sort == "rows":
         return are_rows(graph, value)
-    return is_choice(sort, value)
+    return is_common_part(params, shared, sort, value)
 
 
 def has_parts(graph, value, sorts):

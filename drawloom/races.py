@@ -45,11 +45,26 @@ class Races:
                 return
         earlier[key] = row
 
+    def picture(self):
+        """Return a picture: what is kept of the accesses, and the races told so far."""
+        kept = []
+        for rows in self.earlier.values():
+            kept.extend(list(rows.values()))
+        return (tuple(kept), tuple(self.told))
+
+    def take(self, picture):
+        """Become as the races of a picture; these have met nothing yet."""
+        kept, told = picture
+        for access, block, phase in kept:
+            space, cell, thread, kind, _ = access
+            rows = self.earlier.setdefault((space, cell), {})
+            rows[(thread, kind, phase)] = (access, block, phase)
+        self.told = list(told)
+        # Both accesses of a race are to the cell that has it.
+        self.raced = {(access[0], access[1]): True for access, _ in told}
+
     def copied(self):
         """Return races that go on as these, independent of them."""
         other = Races()
-        for spot, rows in self.earlier.items():
-            other.earlier[spot] = {key: rows[key] for key in rows}
-        other.raced = {spot: True for spot in self.raced}
-        other.told = list(self.told)
+        other.take(self.picture())
         return other

@@ -1,7 +1,8 @@
-"""Random kernels, launches and flow graphs, the same ones in each run of the tests."""
+"""Random kernels, launches, flow graphs and code, the same ones in each run of the tests."""
 
 import random
 
+from drawloom.codes import check_code
 from drawloom.graphs import check_graph
 from drawloom.words import BINARY, FOLDING, UNARY
 
@@ -247,3 +248,50 @@ def random_graph(seed, wild=False, most_nodes=9, most_registers=6):
     graph = GraphMaker(seed, wild).graph(most_nodes, most_registers)
     check_graph(graph)
     return graph
+
+
+class CodeMaker(GraphMaker):
+    """Makes random code with any ways between its instructions, and any joins."""
+
+    def row(self, many, local):
+        dice = self.dice
+        first, second = dice.randrange(4), dice.randrange(4)
+        kind = dice.randrange(12)
+        if kind <= 2:
+            return ("branch", first, dice.randrange(many), dice.randrange(many + 1))
+        if kind == 3:
+            return ("jump", dice.randrange(many))
+        if kind == 4 and local > 0:
+            cell = dice.randrange(local)
+            return dice.choice((("get", first, cell), ("keep", cell, second)))
+        if kind == 5 and dice.random() < 0.4:
+            return ("exit",)
+        return self.instruction(4)
+
+    def code(self, most_rows=24):
+        many = self.dice.randrange(1, most_rows + 1)
+        local = self.dice.randrange(4)
+        rows = [self.row(many, local) for _ in range(many - 1)]
+        rows.append(self.dice.choice((("exit",), ("exit",), ("jump", self.dice.randrange(many)))))
+        # So that threads part.
+        if many > 4:
+            rows[0] = ("special", self.dice.randrange(4), "tid")
+            rows[1] = ("special", self.dice.randrange(4), "bid")
+        return (PARAMS, SHARED, local, tuple(rows))
+
+
+def random_code(seed, wild=False, most_rows=24):
+    """Return random code."""
+    code = CodeMaker(seed, wild).code(most_rows)
+    check_code(code)
+    return code
+
+
+def random_shape(seed, blocks=1):
+    """Return a random shape that has a slot for each of so many blocks."""
+    dice = random.Random(seed)
+    width, room = dice.randrange(1, 9), dice.randrange(5)
+    cores, slots = dice.randrange(1, 5), dice.randrange(1, 5)
+    if cores * slots < blocks:
+        cores = blocks
+    return (width, dice.random() < 0.5, cores, slots, room)

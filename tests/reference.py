@@ -1,4 +1,4 @@
-"""Runs of kernels and flow graphs written a second time, slowly and straight after the document."""
+"""Runs of kernels, flow graphs and code written a second time, slowly and straight after the document."""
 
 import itertools
 
@@ -286,6 +286,30 @@ class SlowGraph(Slow):
         return self.space(number, "buffer", index) if index < 6 else self.space(number, "shared", index - 6)
 
 
+class SlowCode(SlowGraph):
+    def thread(self, number):
+        _, _, local, rows = self.program
+        words, cells, at = [0] * 8, [0] * local, 0
+        while True:
+            row = rows[at]
+            yield ("step",)
+            at += 1
+            if row[0] == "exit":
+                return
+            if row[0] == "jump":
+                at = row[1]
+            elif row[0] == "branch":
+                at = row[2] if words[row[1]] else at
+            elif row[0] == "get":
+                words[row[1]] = cells[row[2]]
+            elif row[0] == "keep":
+                cells[row[1]] = words[row[2]]
+            elif row[0] in ("barrier", "collect"):
+                yield from self.meet(words, row)
+            else:
+                self.do(number, words, row)
+
+
 def slow_run(kernel, launch, turns):
     """Return what a run of a kernel returns."""
     return SlowKernel(kernel, launch).run(turns)
@@ -294,6 +318,11 @@ def slow_run(kernel, launch, turns):
 def slow_run_graph(graph, launch, turns, most):
     """Return what a run of a flow graph returns."""
     return SlowGraph(graph, launch, most).run(turns)
+
+
+def slow_run_code(code, launch, turns, most):
+    """Return what a run of code returns."""
+    return SlowCode(code, launch, most).run(turns)
 
 
 def most_steps(program, launch, most=400):

@@ -32,6 +32,18 @@ FUNCTIONS = {
         "live_into": ["graph"], "clashes": ["graph"], "is_right": ["graph", "places", "k"],
         "assigned": ["graph", "k"],
     },
+    "codes": {"check_code": ["value"], "run_code": ["code", "launch", "turns", "most"]},
+    "emitting": {"emitted": ["graph", "places"], "compiled": ["kernel", "k"]},
+    "lanes": {
+        "first_lane": ["code"], "request": ["code", "lane"], "behind": ["code", "launch", "thread", "lane", "word"],
+    },
+    "machines": {
+        "restored": ["code", "launch", "shape", "picture"], "run_machine": ["code", "launch", "shape", "turns"],
+    },
+}
+WARP = {
+    "__init__": ["code", "launch", "block", "first", "count"], "groups": [], "asks": ["group"],
+    "step": ["group", "words"], "waits": [], "ended": [], "lanes": [], "release": ["words"], "copy": [],
 }
 CLASSES = {
     "errors": {
@@ -42,6 +54,27 @@ CLASSES = {
         "World": {
             "__init__": ["kernel", "launch"], "ready": [], "step": ["thread"], "end": [], "memory": [],
             "races": [], "steps": [], "copy": [],
+        },
+    },
+    "warps": {"Warp": {**WARP, "entries": []}, "FreeWarp": WARP},
+    "buffers": {
+        "Memory": {
+            "__init__": ["code", "launch", "room"], "load": ["thread", "array", "cell"],
+            "store": ["thread", "array", "cell", "word"], "atomic": ["thread", "op", "array", "cell", "word"],
+            "drain": ["thread"], "fence": ["thread"], "pending": [], "spot": ["thread", "array", "cell"], "buffers": [],
+            "copy": [],
+        },
+    },
+    "blocks": {
+        "Block": {
+            "__init__": ["code", "launch", "memory", "block", "width", "free"], "warps": [], "groups": ["warp"],
+            "step": ["warp", "group"], "phase": [], "status": [], "lanes": [], "copy": ["memory"],
+        },
+    },
+    "machines": {
+        "Machine": {
+            "__init__": ["code", "launch", "shape"], "actions": [], "act": ["index"], "end": [], "memory": [], "places": [],
+            "accesses": [], "races": [], "picture": [], "copy": [],
         },
     },
 }
@@ -73,6 +106,13 @@ class InterfaceTest(unittest.TestCase):
                 for method, arguments in methods.items():
                     taken = inspect.signature(vars(getattr(found, name))[method]).parameters
                     self.assertEqual(list(taken), ["self"] + arguments, (name, method))
+
+    def test_entries_of_warps_with_masks_alone(self):
+        found = importlib.import_module("drawloom.warps")
+        self.assertFalse(hasattr(found.FreeWarp, "entries"))
+
+    def test_the_number_of_instructions_of_a_lane(self):
+        self.assertEqual(importlib.import_module("drawloom.machines").MOST_STEPS, 20000)
 
     def test_tuples(self):
         for module, names in TUPLES.items():
