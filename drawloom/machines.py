@@ -48,11 +48,13 @@ class Machine:
         return rows
 
     def placings(self):
-        """Return the list of the actions that place a block."""
-        _, _, cores, slots, _ = self.shape
-        left = [block for block, core in enumerate(self.cores) if core == NO_CORE]
-        left = [block for block in left if self.blocks[block].status() != "ended"]
-        return [("place", block, core) for block in left[:1] for core in range(cores) if self.cores.count(core) < slots]
+        """Return the list of the actions that place a block, the least one that is to be placed."""
+        _, _, many, slots, _ = self.shape
+        free = [core for core in range(many) if self.cores.count(core) < slots]
+        for block, core in enumerate(self.cores):
+            if core == NO_CORE and self.blocks[block].status() != "ended":
+                return [("place", block, other) for other in free]
+        return []
 
     def end_with(self, rows):
         """Return what end() does, given the list of what is possible."""

@@ -19,6 +19,12 @@ def stays(entry):
     return len(lanes) > 0 and (join == NO_JOIN or at != join)
 
 
+def without(entry, stopped):
+    """Return an entry without the lanes that do not run any more."""
+    at, join, lanes = entry
+    return (at, join, tuple([tid for tid in lanes if tid not in stopped]))
+
+
 class Warp:
     """A warp with masks: lanes that part meet again at the join of their branch."""
 
@@ -46,9 +52,7 @@ class Warp:
             at, join, _ = self.stack.pop()
             self.stack.extend(self.entries_behind(at, join, lanes))
         else:
-            self.stack = [
-                (at, join, tuple([tid for tid in others if tid not in lanes])) for at, join, others in self.stack
-            ]
+            self.stack = [without(entry, lanes) for entry in self.stack]
         self.stack = [entry for entry in self.stack if stays(entry)]
 
     def entries_behind(self, at, join, lanes):
@@ -106,12 +110,11 @@ class FreeWarp:
     def __init__(self, code, launch, block, first, count):
         self.row = LaneRow(code, launch, block, first, count)
         # The lanes of each group.
-        self.parts = []
-        self.gather()
+        self.parts = self.parted()
 
-    def gather(self):
-        """Put the running lanes into groups."""
-        self.parts = [lanes for _, lanes in self.row.gathered(self.row.tids(RUNNING))]
+    def parted(self):
+        """Return the list of the tuples of the running lanes that are at one index, ascending."""
+        return [lanes for _, lanes in self.row.gathered(self.row.tids(RUNNING))]
 
     def groups(self):
         """Return the number of groups."""
@@ -129,7 +132,7 @@ class FreeWarp:
     def step(self, group, words):
         """Do the instruction of a group, with a word for each of its lanes."""
         self.row.step(self.active(group), words)
-        self.gather()
+        self.parts = self.parted()
 
     def waits(self):
         """Return the list of the pairs of the tid and the request of the waiting lanes."""
@@ -146,7 +149,7 @@ class FreeWarp:
     def release(self, words):
         """Let all waiting lanes run on, with a word for each of them."""
         self.row.release(words)
-        self.gather()
+        self.parts = self.parted()
 
     def picture(self):
         """Return a picture: that of the lanes."""
@@ -155,7 +158,7 @@ class FreeWarp:
     def take(self, picture):
         """Become as the warp of a picture."""
         self.row.take(picture)
-        self.gather()
+        self.parts = self.parted()
 
     def copy(self):
         """Return a warp that behaves as this one, independent of it."""

@@ -177,7 +177,9 @@ class InstructionsTest(CodeCase):
         self.bad((params, (), 0, (("load", 0, 1, 0), EXIT)))
         self.bad((params, (("s", 1),), 0, (("load", 0, 7, 0), EXIT)))
         six = tuple((name, "int") for name in "abcdef")
-        self.good((six, (("s", 1),), 0, (("param", 0, 5), ("load", 0, 6, 0), EXIT)))
+        for index in range(6):
+            self.good((six, (("s", 1),), 0, (("param", 0, index), ("load", 0, 6, 0), EXIT)))
+        self.bad((six, (("s", 1),), 0, (("param", 0, -1), EXIT)))
         self.bad((six, (("s", 1),), 0, (("param", 0, 6), EXIT)))
 
 

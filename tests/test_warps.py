@@ -189,6 +189,30 @@ class BothKindsTest(WarpCase):
             self.not_ready(one.release, [])
             self.assertEqual(self.told(one), before)
 
+    def test_release_of_one_lane(self):
+        value = code(("special", 0, "tid"), ("branch", 0, 3, 4), EXIT, ("collect", "add", 1, 0, 0), EXIT)
+        for kind in KINDS:
+            one = warp(kind, value, 1, 1)
+            steps(one, 3)
+            one.release([50])
+            self.assertEqual((one.lanes(), groups(one)), ([state(4, 1, 50)], [[1]]))
+            # Lane 0 has ended, and lane 1 waits.
+            one = warp(kind, value, 0, 2)
+            steps(one, 4)
+            one.release([50])
+            self.assertEqual((one.lanes(), groups(one)), ([state(2), state(4, 1, 50)], [[1]]))
+
+    def test_release_while_one_lane_runs(self):
+        value = code(("special", 0, "tid"), ("branch", 0, 3, 4), ("jump", 2), ("barrier", 0), EXIT)
+        for kind in KINDS:
+            one = warp(kind, value, 0, 4)
+            steps(one, 2)
+            step(one, one.groups() - 1)
+            self.assertEqual((groups(one), len(one.waits())), ([[0]], 3))
+            before = self.told(one)
+            self.not_ready(one.release, [0] * 3)
+            self.assertEqual(self.told(one), before)
+
     def test_release_while_a_lane_runs(self):
         value = code(*PARTING, ("branch", 2, 5, 6), ("barrier", 0), ("word", 3, 3), EXIT)
         for kind in KINDS:
